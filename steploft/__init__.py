@@ -1,0 +1,1 @@
+"""Steploft: machine instructions as rows of small steps."""
