@@ -4,6 +4,7 @@ LETTERS = "abcdefghijklmnopqrstuvwxyz"
 FIGURES = "0123456789"
 MOST_LETTERS = 8
 MOST_FIGURES = 9
+MOST_LEVELS = 6
 
 OPS = ("add", "sub", "and", "or", "xor", "less", "same")
 KINDS = ("alu", "move", "put", "load", "store")
@@ -16,11 +17,14 @@ FORMS = {
 }
 
 
+def is_whole(thing):
+    """Whether the thing is a whole number; truths are none."""
+    return isinstance(thing, int) and not isinstance(thing, bool)
+
+
 def is_between(thing, low, high):
-    """Whether the thing is a whole number from low to high; truths are none."""
-    if not isinstance(thing, int) or isinstance(thing, bool):
-        return False
-    return low <= thing <= high
+    """Whether the thing is a whole number from low to high."""
+    return is_whole(thing) and low <= thing <= high
 
 
 def is_name(thing):
@@ -35,6 +39,13 @@ def is_tuple_of(thing, many):
     return isinstance(thing, tuple) and len(thing) == many
 
 
+def head_of(thing):
+    """The text that a tuple begins with; an empty one of anything else."""
+    if not isinstance(thing, tuple) or len(thing) == 0 or not isinstance(thing[0], str):
+        return ""
+    return thing[0]
+
+
 def word_limit(machine):
     """The first number that is no word of the machine."""
     return 1 << machine[0]
@@ -45,13 +56,18 @@ def is_word(machine, thing):
     return is_between(thing, 0, word_limit(machine) - 1)
 
 
+def has_name(machine, thing):
+    """Whether the thing is the name of a visible place of the machine."""
+    return isinstance(thing, str) and thing in machine[1]
+
+
 def is_place(machine, thing):
     """Whether the thing is a place of the machine."""
     if not is_tuple_of(thing, 2) or not isinstance(thing[0], str):
         return False
     kind, which = thing
     if kind == "reg":
-        return isinstance(which, str) and which in machine[1]
+        return has_name(machine, which)
     return kind == "hid" and is_between(which, 0, machine[2] - 1)
 
 
