@@ -48,6 +48,11 @@ def row_behind(machine, state, onward):
     return onward[2] if word_at(machine, state, onward[1]) != 0 else onward[3]
 
 
+def rows_named(onward):
+    """The numbers of rows that a next names, in its order."""
+    return onward[2:] if onward[0] == "test" else onward[1:]
+
+
 def needs(meaning):
     """How many hidden places the meaning needs."""
     if meaning[0] == "if":

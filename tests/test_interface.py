@@ -4,8 +4,9 @@ import copy
 import inspect
 import unittest
 
-from steploft import machines, meanings, packing, programs, texts
-from steploft.errors import NoRoom, NoText, TooMany
+from steploft import loft, looks, machines, meanings, packing, programs, stores, texts
+from steploft.errors import NoCells, NoLoft, NoName, NoRoom, NoRow, NoText, NotStill, TooMany
+from steploft.loft import Loft
 from things import A, B, MACHINE
 
 STATE = ((1, 2), (3, 4), (0,) * 10)
@@ -17,6 +18,10 @@ ORDERS = [("put", A, 7)]
 PAPER = packing.paper_of(MACHINE, ORDERS)
 PROGRAM = ((ROW, ("end",)),)
 TURNED = (((("move", ("hid", 0), B),), ("go", 1)), ((("move", A, ("hid", 0)),), ("end",)))
+STORE = (PROGRAM + (((), ("go", 0)),), (("x", 0), ("y", 1)))
+STORE_TEXT = "0 put a 7 ; end\n1 nop ; go 0\nstart x 0\nstart y 1\n"
+SMALL = (4, ("a", "b"), 1, 1, 1, 1)
+UNSAFE = ((ROW, ("go", 1)), ((("store", A, B),), ("end",)))
 CALLS = (
     (machines.is_machine, {"thing": MACHINE}, True),
     (machines.is_order, {"machine": MACHINE, "thing": ROW[0]}, True),
@@ -41,8 +46,18 @@ CALLS = (
     (programs.run, {"machine": MACHINE, "program": PROGRAM, "state": STATE}, ((7, 2),) + STATE[1:]),
     (programs.needs, {"meaning": MEANING}, 1),
     (programs.turned, {"machine": MACHINE, "meaning": MEANING}, TURNED),
+    (stores.store_of, {"programs": {"x": PROGRAM}}, (PROGRAM, (("x", 0),))),
+    (stores.parted, {"store": STORE, "one": 0, "other": 1}, ()),
+    (stores.show_program, {"program": PROGRAM}, "0 put a 7 ; end\n"),
+    (stores.show_store, {"store": STORE}, STORE_TEXT),
+    (stores.read_program, {"machine": MACHINE, "text": "0 put a 7 ; end\n"}, PROGRAM),
+    (stores.read_store, {"machine": MACHINE, "text": STORE_TEXT}, STORE),
+    (looks.differs, {"machine": SMALL, "meaning": MEANING, "program": PROGRAM}, ((0, 0), (0,), (0,))),
+    (looks.unsafe_way, {"machine": MACHINE, "program": UNSAFE}, (0, 1)),
 )
-MODULES = {module.__name__: module for module in (machines, meanings, packing, programs, texts)}
+MODULES = {module.__name__: module for module in (looks, machines, meanings, packing, programs, stores, texts)}
+METHODS = {"do": ["name"], "go": ["rows"], "ring": ["number"], "mend": ["cells"], "leave": [], "book": [], "state": [],
+           "rows_done": [], "bells": [], "waiting": [], "is_still": [], "is_going": []}
 
 
 class Arguments(unittest.TestCase):
@@ -77,6 +92,49 @@ class Arguments(unittest.TestCase):
             packing.paper_of(orders=ORDERS * 11, machine=MACHINE)
         with self.assertRaises(NoRoom):
             programs.turned(meaning=MEANING, machine=(4, ("a", "b"), 0, 1, 1, 0))
+        with self.assertRaises(NoRow):
+            stores.parted(other=0, one=2, store=STORE)
+        with self.assertRaises(NoText):
+            stores.read_program(text="", machine=MACHINE)
+        with self.assertRaises(NoText):
+            stores.read_store(text="", machine=MACHINE)
+        with self.assertRaises(TooMany):
+            looks.differs(program=PROGRAM, meaning=MEANING, machine=MACHINE)
+
+
+class LoftArguments(unittest.TestCase):
+    def test_methods_stand_in_the_class_itself(self):
+        for name, arguments in METHODS.items():
+            self.assertTrue(inspect.isfunction(vars(Loft)[name]), name)
+            self.assertEqual(list(inspect.signature(vars(Loft)[name]).parameters)[1:], arguments)
+
+    def test_defaults_and_what_is_by_name_alone(self):
+        self.assertEqual(loft.ROWS, 100)
+        rows = inspect.signature(Loft.go).parameters["rows"]
+        self.assertEqual((rows.default, rows.kind), (100, rows.KEYWORD_ONLY))
+        made = inspect.signature(Loft).parameters
+        self.assertEqual(list(made), ["machine", "store", "state"])
+        self.assertEqual((made["state"].default, made["state"].kind), (None, rows.KEYWORD_ONLY))
+        for told in (Loft(MACHINE, STORE, state=STATE), Loft(state=STATE, store=STORE, machine=MACHINE),
+                     Loft(MACHINE, store=STORE, state=STATE)):
+            self.assertEqual(told.state(), STATE)
+
+    def test_by_name(self):
+        told = Loft(SMALL, (UNSAFE, (("x", 0),)))
+        told.do(name="x")
+        self.assertEqual(told.go(rows=5), 1)
+        told.ring(number=3)
+        told.mend(cells=7)
+        self.assertEqual(told.book(), [("trap", "x", 7), ("bell", 3, (7, 0))])
+        for refusal, call, arguments in ((NoName, told.do, {"name": "y"}), (NotStill, told.mend, {"cells": 0}),
+                                         (NotStill, told.leave, {}), (NoLoft, Loft, {"machine": 0, "store": 0})):
+            with self.assertRaises(refusal):
+                call(**arguments)
+        told = Loft(SMALL, (UNSAFE, (("x", 0),)))
+        told.do("x")
+        told.go()
+        with self.assertRaises(NoCells):
+            told.mend(cells=16)
 
 
 class Kept(unittest.TestCase):
@@ -98,6 +156,9 @@ class Kept(unittest.TestCase):
             packing.holds_list(MACHINE, ORDERS, part)
             packing.paper_holds(MACHINE, ORDERS, part)
             programs.is_program(MACHINE, part)
+            for made in ((part, STORE, None), (MACHINE, part, None), (MACHINE, STORE, part)):
+                with self.assertRaises(NoLoft):
+                    Loft(made[0], made[1], state=made[2])
         self.assertEqual(thing, before)
         self.assertEqual(ORDERS, [("put", A, 7)])
 

@@ -2,7 +2,7 @@
 
 import itertools
 
-from steploft.machines import is_row
+from steploft.machines import is_row, sorted_row
 
 MACHINE = (4, ("a", "b"), 2, 2, 2, 10)
 A = ("reg", "a")
@@ -171,3 +171,48 @@ def has_room(machine, orders, numbers):
         if kinds.count("load") + kinds.count("store") > 1:
             return False
     return True
+
+
+def some_row(rng, machine, many):
+    """A row's orders by chance, of at most so many orders."""
+    while True:
+        orders = sorted_row({some_order(rng, machine) for k in range(rng.randrange(many + 1))})
+        if is_row(machine, orders):
+            return orders
+
+
+def some_next(rng, machine, numbers):
+    """A next by chance to rows of these numbers."""
+    word = rng.choice(("end", "go", "go", "test", "test", "test")) if numbers else "end"
+    if word == "end":
+        return (word,)
+    if word == "go":
+        return (word, rng.choice(numbers))
+    return (word, rng.choice(places_of(machine)), rng.choice(numbers), rng.choice(numbers))
+
+
+def some_program(rng, machine, many, choices=None):
+    """A program of so many rows by chance; choices are the rows' orders to choose from."""
+    rows = []
+    for at in range(many):
+        orders = rng.choice(choices) if choices else some_row(rng, machine, 3)
+        rows.append((orders, some_next(rng, machine, range(at + 1, min(many, at + 6)))))
+    return tuple(rows)
+
+
+def shuffled(rng, rows):
+    """The rows of a store in another order, with a list of the new numbers."""
+    numbers = list(range(len(rows)))
+    rng.shuffle(numbers)
+    laid = [None] * len(rows)
+    for at, (orders, onward) in enumerate(rows):
+        ahead = onward[:2] if onward[0] == "test" else onward[:1]
+        laid[numbers[at]] = (orders, ahead + tuple(numbers[k] for k in onward[len(ahead):]))
+    return tuple(laid), numbers
+
+
+def some_store(rng, machine, many, choices=None):
+    """A store of so many rows by chance, like rows among them and rows that none comes to."""
+    rows, numbers = shuffled(rng, some_program(rng, machine, many, choices))
+    names = sorted(rng.sample(("a", "aa", "b", "start", "end", "nop", "z"), rng.randrange(1, 5)))
+    return rows, tuple((name, rng.randrange(many)) for name in names)
